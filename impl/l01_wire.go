@@ -48,7 +48,7 @@ type Message struct {
 func MessageOK(m Message) bool {
 	return within(m.Type, MeHello, MeTc) &&
 		isAddress(m.Origin) &&
-		within(m.Seq, 0, maxTwo) &&
+		isSeq(m.Seq) &&
 		within(m.HopLimit, 0, maxByte) &&
 		within(m.Hops, 0, maxByte) &&
 		len(m.Body) <= MaxBody
@@ -126,6 +126,10 @@ func MessageText(m Message) (string, int) {
 
 func isAddress(n int) bool {
 	return within(n, 1, MaxAddr)
+}
+
+func isSeq(n int) bool {
+	return within(n, 0, maxTwo)
 }
 
 func typeWord(kind int) string {
