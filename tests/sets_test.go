@@ -88,6 +88,13 @@ func wrongSets() [][]impl.Tuple {
 	return sets
 }
 
+// longSets are longer than any list that is handed in may be; one of them is wrong in another way, too.
+func longSets() [][]impl.Tuple {
+	wrong := longList(impl.MaxList + 1)
+	wrong[7].Key = -1
+	return [][]impl.Tuple{longList(impl.MaxList + 1), wrong, make([]impl.Tuple, impl.MaxList+1), longList(70000)}
+}
+
 // wantPut goes from the first tuple on, and doesn't search by halves.
 func wantPut(list []impl.Tuple, x impl.Tuple) []impl.Tuple {
 	var want []impl.Tuple
@@ -355,9 +362,7 @@ func TestPromise4WrongSetsAreBad(t *testing.T) {
 }
 
 func TestPromise4LongListsAreLongAheadOfBad(t *testing.T) {
-	wrong := longList(impl.MaxList + 1)
-	wrong[7].Key = -1
-	for _, list := range [][]impl.Tuple{longList(impl.MaxList + 1), wrong, make([]impl.Tuple, impl.MaxList+1), longList(70000)} {
+	for _, list := range longSets() {
 		checkAllCalls(t, list, impl.ErrLong)
 	}
 }

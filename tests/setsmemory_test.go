@@ -7,11 +7,14 @@ import (
 	"loop.example/g00419/impl"
 )
 
-// setCalls has the calls that answer a set, with arguments for which they keep all, some or nothing of it.
-var setCalls = []struct {
+// A setCall is a call that answers a set.
+type setCall struct {
 	name string
 	call func([]impl.Tuple) ([]impl.Tuple, int)
-}{
+}
+
+// setCalls has the calls of chapter 4, with arguments for which they keep all, some or nothing of a set.
+var setCalls = []setCall{
 	{"SetPut of a new key", func(l []impl.Tuple) ([]impl.Tuple, int) { return impl.SetPut(l, impl.Tuple{Key: 2, Until: 77}) }},
 	{"SetPut at the beginning", func(l []impl.Tuple) ([]impl.Tuple, int) { return impl.SetPut(l, impl.Tuple{Until: 77}) }},
 	{"SetPut at the end", func(l []impl.Tuple) ([]impl.Tuple, int) { return impl.SetPut(l, impl.Tuple{Key: maxKey, Until: 77}) }},
@@ -44,31 +47,32 @@ func memorySets() [][]impl.Tuple {
 	return [][]impl.Tuple{{}, fullSet()[:1], fullSet()[:2], fullSet()[:5], fullSet()[:63], fullSet(), edgeSet(), {{Key: 2}, {Key: 1}}, longList(65)}
 }
 
-func TestPromise1SetsStayAsTheyWere(t *testing.T) {
-	for _, set := range memorySets() {
+// checkSetsStay holds the calls, and ask, which makes all those that answer no set, to writing nothing into a set.
+func checkSetsStay(t *testing.T, sets [][]impl.Tuple, calls []setCall, ask func(list []impl.Tuple)) {
+	t.Helper()
+	for _, set := range sets {
 		list, room := guardedSet(set)
 		before := slices.Clone(room)
-		for _, c := range setCalls {
+		for _, c := range calls {
 			c.call(list)
 			if !slices.Equal(room, before) {
 				t.Fatalf("%s wrote into its set of %d, or around it", c.name, len(set))
 			}
 		}
-		impl.SetOK(list)
-		impl.SetFind(list, 1)
-		impl.SetKeys(list)
-		impl.SetNext(list)
+		ask(list)
 		if !slices.Equal(room, before) {
 			t.Fatalf("a call that answers no set wrote into its set of %d, or around it", len(set))
 		}
 	}
 }
 
-func TestPromise1SetsThatAreAnsweredAreNewMemory(t *testing.T) {
-	for _, set := range memorySets() {
+// checkSetsAreNew asks that what the calls answer is neither a set's memory nor that of another answer.
+func checkSetsAreNew(t *testing.T, sets [][]impl.Tuple, calls []setCall) {
+	t.Helper()
+	for _, set := range sets {
 		list, room := guardedSet(set)
 		before := slices.Clone(room)
-		for _, c := range setCalls {
+		for _, c := range calls {
 			got, code := c.call(list)
 			want := slices.Clone(got)
 			clear(room)
@@ -86,6 +90,19 @@ func TestPromise1SetsThatAreAnsweredAreNewMemory(t *testing.T) {
 			}
 		}
 	}
+}
+
+func TestPromise1SetsStayAsTheyWere(t *testing.T) {
+	checkSetsStay(t, memorySets(), setCalls, func(list []impl.Tuple) {
+		impl.SetOK(list)
+		impl.SetFind(list, 1)
+		impl.SetKeys(list)
+		impl.SetNext(list)
+	})
+}
+
+func TestPromise1SetsThatAreAnsweredAreNewMemory(t *testing.T) {
+	checkSetsAreNew(t, memorySets(), setCalls)
 }
 
 func TestPromise1KeysThatAreAnsweredAreNewMemory(t *testing.T) {
