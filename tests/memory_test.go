@@ -8,6 +8,59 @@ import (
 	"loop.example/g00419/impl"
 )
 
+// An answer has lists that can be told and wiped one by one, and numbers beside them.
+type answer interface {
+	lists() []string
+	numbers() string
+	wipe(i int)
+}
+
+// A guard is arguments whose memory can be kept, held against what was kept, wiped, and restored.
+type guard[G any] interface {
+	kept() G
+	isAs(k G) bool
+	wipe()
+	restore(k G)
+}
+
+// checkNewMemory asks that an answer shares no memory with the arguments in g, nor with the next answer to them.
+func checkNewMemory[G guard[G]](t *testing.T, what string, g G, call func() answer) {
+	t.Helper()
+	before := g.kept()
+	a := call()
+	want, numbers := a.lists(), a.numbers()
+	again := call()
+	g.wipe()
+	if !slices.Equal(a.lists(), want) {
+		t.Errorf("%s answers memory of an argument", what)
+	}
+	g.restore(before)
+	for i := range want {
+		a.wipe(i)
+	}
+	if !g.isAs(before) {
+		t.Errorf("%s answers memory of an argument", what)
+	}
+	if !slices.Equal(again.lists(), want) || again.numbers() != numbers {
+		t.Errorf("%s answers otherwise at its second call, or the same memory", what)
+	}
+}
+
+// checkSharesNone asks that no two lists of one answer share memory.
+func checkSharesNone(t *testing.T, what string, call func() answer) {
+	t.Helper()
+	want := call().lists()
+	for i := range want {
+		a := call()
+		a.wipe(i)
+		got := a.lists()
+		got[i] = want[i]
+		if !slices.Equal(got, want) {
+			t.Errorf("%s: list %d shares memory with another one", what, i)
+		}
+	}
+}
+
 func TestPromise1BytesStayAsTheyWere(t *testing.T) {
 	d := &draws{7}
 	for range 300 {

@@ -201,24 +201,7 @@ func TestPromise1RoutersThatAreAnsweredAreNewMemory(t *testing.T) {
 		for _, bytes := range memoryPackets() {
 			for _, c := range routerCalls {
 				g := guardRouter(given, bytes)
-				before := g.kept()
-				a := c.call(g.r, g.b)
-				want, numbers := a.lists(), a.numbers()
-				again := c.call(g.r, g.b)
-				g.wipe()
-				if !slices.Equal(a.lists(), want) {
-					t.Errorf("%s of %s answers memory of an argument", c.name, briefRouter(given))
-				}
-				g.restore(before)
-				for i := range want {
-					a.wipe(i)
-				}
-				if !g.isAs(before) {
-					t.Errorf("%s of %s answers memory of an argument", c.name, briefRouter(given))
-				}
-				if !slices.Equal(again.lists(), want) || again.numbers() != numbers {
-					t.Errorf("%s of %s answers otherwise at its second call, or the same memory", c.name, briefRouter(given))
-				}
+				checkNewMemory(t, c.name+" of "+briefRouter(given), g, func() answer { return c.call(g.r, g.b) })
 			}
 		}
 	}
@@ -228,16 +211,7 @@ func TestPromise1ListsOfOneRouterShareNoMemory(t *testing.T) {
 	for _, given := range memoryRouters() {
 		for _, bytes := range memoryPackets() {
 			for _, c := range routerCalls {
-				want := c.call(given, []byte(bytes)).lists()
-				for i := range want {
-					a := c.call(given, []byte(bytes))
-					a.wipe(i)
-					got := a.lists()
-					got[i] = want[i]
-					if !slices.Equal(got, want) {
-						t.Errorf("%s of %s: list %d shares memory with another one", c.name, briefRouter(given), i)
-					}
-				}
+				checkSharesNone(t, c.name+" of "+briefRouter(given), func() answer { return c.call(given, []byte(bytes)) })
 			}
 		}
 	}
