@@ -2,7 +2,6 @@ package tests
 
 import (
 	"math"
-	"strconv"
 	"testing"
 
 	"loop.example/g00419/impl"
@@ -75,15 +74,10 @@ func TestPromise15BadAheadOfRange(t *testing.T) {
 
 // Each bound of each field of each router, one above and one below: an audit asks of a net what NetOK does.
 func TestPromise15AuditsAskForAllThatIsRight(t *testing.T) {
+	for _, c := range wrongFieldNets() {
+		checkBadAudit(t, c.name, c.n, 1, 2)
+	}
 	for i := range 3 {
-		for _, f := range routerFields {
-			for _, x := range []int{f.low - 1, f.high + 1, math.MinInt, math.MaxInt} {
-				n := meshNet(3)
-				n.Time = maxTick
-				f.set(&n.Routers[i], x)
-				checkBadAudit(t, f.name+" "+strconv.Itoa(x), n, 1, 2)
-			}
-		}
 		n := knowingNet(meshNet(3))
 		n.Routers[i].Dups = keysTwo(70000, 65536)
 		checkBadAudit(t, "marks that don't rise", n, 1, 0)

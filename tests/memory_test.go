@@ -1,9 +1,11 @@
 package tests
 
 import (
+	"runtime"
 	"slices"
 	"strings"
 	"testing"
+	"time"
 
 	"loop.example/g00419/impl"
 )
@@ -59,6 +61,41 @@ func checkSharesNone(t *testing.T, what string, call func() answer) {
 			t.Errorf("%s: list %d shares memory with another one", what, i)
 		}
 	}
+}
+
+// checkAtOnce asks at the same time, again and again, whether all is right.
+func checkAtOnce(t *testing.T, rounds int, isRight func() bool) {
+	t.Helper()
+	done := make(chan bool)
+	for range 8 {
+		go func() {
+			right := true
+			for range rounds {
+				right = isRight() && right
+			}
+			done <- right
+		}()
+	}
+	for range 8 {
+		if !<-done {
+			t.Error("calls at once answer otherwise")
+		}
+	}
+}
+
+// checkLeavesNothingRunning asks that all that a call began is at its end when it answers.
+func checkLeavesNothingRunning(t *testing.T, call func()) {
+	t.Helper()
+	before := runtime.NumGoroutine()
+	call()
+	// One that is at its end is still counted for a moment.
+	for range 200 {
+		if runtime.NumGoroutine() <= before {
+			return
+		}
+		time.Sleep(5 * time.Millisecond)
+	}
+	t.Errorf("%d are running, %d were ahead", runtime.NumGoroutine(), before)
 }
 
 func TestPromise1BytesStayAsTheyWere(t *testing.T) {

@@ -2,10 +2,8 @@ package tests
 
 import (
 	"fmt"
-	"runtime"
 	"slices"
 	"testing"
-	"time"
 
 	"loop.example/g00419/impl"
 )
@@ -253,40 +251,21 @@ func TestPromise1NetCallsAtOnceAnswerAlike(t *testing.T) {
 	ticked := wantNetTick(n, lose)
 	ran := wantNetTick(wantNetTick(wantNetTick(n, nil), nil), nil)
 	injected, _ := wantInject(n, 1, 2, "zz")
-	done := make(chan bool)
-	for range 8 {
-		go func() {
-			right := true
-			for range 30 {
-				x, _ := impl.NetTick(n, lose)
-				y, _ := impl.NetTicks(n, 3)
-				z, _ := impl.Inject(n, 1, 2, []byte("zz"))
-				right = right && sameNet(x, ticked) && sameNet(y, ran) && sameNet(z, injected)
-			}
-			done <- right
-		}()
-	}
-	for range 8 {
-		if !<-done {
-			t.Error("calls at once answer otherwise")
-		}
-	}
+	checkAtOnce(t, 30, func() bool {
+		x, _ := impl.NetTick(n, lose)
+		y, _ := impl.NetTicks(n, 3)
+		z, _ := impl.Inject(n, 1, 2, []byte("zz"))
+		return sameNet(x, ticked) && sameNet(y, ran) && sameNet(z, injected)
+	})
 }
 
 // What a call began is at its end when it answers: nothing of it is left, whatever the call was given.
 func TestPromise1NetCallsLeaveNothingRunning(t *testing.T) {
-	before := runtime.NumGoroutine()
-	for _, given := range memoryNets() {
-		for _, c := range netCalls {
-			c.call(given, []int{0, 1}, []byte("zz"))
+	checkLeavesNothingRunning(t, func() {
+		for _, given := range memoryNets() {
+			for _, c := range netCalls {
+				c.call(given, []int{0, 1}, []byte("zz"))
+			}
 		}
-	}
-	// One that is at its end is still counted for a moment.
-	for range 200 {
-		if runtime.NumGoroutine() <= before {
-			return
-		}
-		time.Sleep(5 * time.Millisecond)
-	}
-	t.Errorf("%d are running, %d were ahead", runtime.NumGoroutine(), before)
+	})
 }

@@ -135,6 +135,22 @@ func wrongAirNets() []namedNet {
 	return append(list, namedNet{"late", late}, namedNet{"early", early}, namedNet{"from one router alone", lone})
 }
 
+// wrongFieldNets have one field of one router that is one above or one below its bounds, or far outside them.
+func wrongFieldNets() []namedNet {
+	var list []namedNet
+	for i := range 3 {
+		for _, f := range routerFields {
+			for _, x := range []int{f.low - 1, f.high + 1, math.MinInt, math.MaxInt} {
+				n := meshNet(3)
+				n.Time = maxTick
+				f.set(&n.Routers[i], x)
+				list = append(list, namedNet{f.name + " " + strconv.Itoa(x) + " of " + strconv.Itoa(i+1), n})
+			}
+		}
+	}
+	return list
+}
+
 func wrongNets() []namedNet {
 	return slices.Concat(wrongRouterNets(), wrongTimeNets(), wrongCostNets(), wrongAirNets())
 }
