@@ -85,11 +85,11 @@ func TestPromise16TextsByHand(t *testing.T) {
 }
 
 func signsWord(lose []int) string {
-	word := ""
+	var word strings.Builder
 	for _, x := range lose {
-		word += strconv.Itoa(x)
+		word.WriteString(strconv.Itoa(x))
 	}
-	return word
+	return word.String()
 }
 
 func TestPromise16TextsOfEachNumber(t *testing.T) {
@@ -223,8 +223,7 @@ func TestPromise16WordsThatAreNoNumbers(t *testing.T) {
 func TestPromise16WordsThatAreNoSigns(t *testing.T) {
 	for _, word := range []string{
 		"2", "012", "210", "0 1", "01 1", "-1", "+1", "0-1", "01x", "x", "0,1", "0\t1", "01\n", "\x00", "\x01", "0\x011", "\xff", "٠١", "０１", "/0", "0:", "0110 0", "lossy",
-		strings.Repeat("0", 61), strings.Repeat("1", 61), strings.Repeat("01", 31), strings.Repeat("0", 60) + "1", strings.Repeat("0", 60) + "2", strings.Repeat("0", 59) + "2",
-		strings.Repeat("0", 4096), strings.Repeat("1", 4097), strings.Repeat("1", 65000),
+		strings.Repeat("0", 59) + "2", strings.Repeat("0", 60) + "2", "2" + strings.Repeat("0", 60), strings.Repeat("1", 4096) + "x", strings.Repeat("0", 30000) + "\t" + strings.Repeat("0", 30000), strings.Repeat("1", 65000) + "2",
 	} {
 		checkNoAct(t, "lossy 3 "+word, impl.ErrForm)
 		checkNoAct(t, "lossy 3 "+word+"  ", impl.ErrForm)
@@ -323,9 +322,34 @@ func TestPromise16TextsOfTheGreatestLength(t *testing.T) {
 		checkNoAct(t, text[:impl.MaxText], impl.ErrForm)
 		checkNoAct(t, text[:impl.MaxText+1], impl.ErrLong)
 		checkNoAct(t, "ticks "+text[:impl.MaxText-6], impl.ErrForm)
-		checkNoAct(t, "lossy 3 "+text[:impl.MaxText-8], impl.ErrForm)
+		checkNoAct(t, "lossy 3 "+text[:impl.MaxText-9]+"x", impl.ErrForm)
 		checkNoAct(t, "lossy 3 "+text[:impl.MaxText-7], impl.ErrLong)
 	}
+}
+
+// MaxActs bounds the signs that are told; those that are read are bounded by the text's length alone.
+func TestPromise16ManySignsAreReadAndNotTold(t *testing.T) {
+	for _, size := range []int{maxActs - 1, maxActs, maxActs + 1, maxActs + 2, 200, impl.MaxList, impl.MaxList + 1, impl.MaxText - 9, impl.MaxText - 8} {
+		for _, lose := range [][]int{make([]int, size), slices.Repeat([]int{1}, size), signsOf(size)} {
+			a, text := lossyAct(3, lose...), "lossy 3 "+signsWord(lose)
+			checkReadAct(t, text, a)
+			if size <= maxActs {
+				checkActText(t, a, text)
+			} else {
+				checkNoAct(t, text+"2", map[bool]int{true: impl.ErrLong, false: impl.ErrForm}[len(text) == impl.MaxText])
+				checkNoText(t, a, impl.ErrBad)
+			}
+		}
+		for _, i := range []int{0, size / 2, size - 1} {
+			lose := make([]int, size)
+			lose[i] = 1
+			checkReadAct(t, "lossy 3 "+signsWord(lose), lossyAct(3, lose...))
+			wrong := []byte("lossy 3 " + signsWord(lose))
+			wrong[len("lossy 3 ")+i] = '2'
+			checkNoAct(t, string(wrong), impl.ErrForm)
+		}
+	}
+	checkNoAct(t, "lossy 3 "+strings.Repeat("0", impl.MaxText-7), impl.ErrLong)
 }
 
 // The words of chapters 1 and 16, as patterns: a reckoning that shares nothing with the program's.
@@ -333,7 +357,7 @@ var (
 	aNumber     = `(0|-?[1-9][0-9]{0,17})`
 	actPatterns = []*regexp.Regexp{
 		impl.AcTicks:   regexp.MustCompile(`\A *ticks +` + aNumber + ` *\z`),
-		impl.AcLossy:   regexp.MustCompile(`\A *lossy +` + aNumber + ` +([01]{1,60}) *\z`),
+		impl.AcLossy:   regexp.MustCompile(`\A *lossy +` + aNumber + ` +([01]+) *\z`),
 		impl.AcCost:    regexp.MustCompile(`\A *cost +` + aNumber + ` +` + aNumber + ` +` + aNumber + ` *\z`),
 		impl.AcRestart: regexp.MustCompile(`\A *restart +` + aNumber + ` +` + aNumber + ` *\z`),
 	}
@@ -376,7 +400,11 @@ func checkAsRead(t *testing.T, text string) bool {
 		return false
 	}
 	checkReadAct(t, text, want)
-	checkActText(t, want, strings.Join(strings.Fields(text), " "))
+	if len(want.Lose) > maxActs {
+		checkNoText(t, want, impl.ErrBad)
+	} else {
+		checkActText(t, want, strings.Join(strings.Fields(text), " "))
+	}
 	return true
 }
 

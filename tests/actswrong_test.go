@@ -159,8 +159,8 @@ func TestPromise16SeveralFaultsAtOnce(t *testing.T) {
 	checkActCode(t, "its end", late, lossyAct(-1, 2), impl.ErrRange)
 	checkActCode(t, "its end", late, ticksAct(-1), impl.ErrRange)
 	checkActCode(t, "its end", late, impl.Act{Kind: 6, N: 201, Lose: []int{2}, Bytes: long}, impl.ErrForm)
-	checkActCode(t, "a full air", full, injectAct(1, 2, long), impl.ErrLong)
-	checkActCode(t, "a full air", full, injectAct(1, 1, long), impl.ErrLong)
+	checkActCode(t, "a full air", full, injectAct(1, 2, long), impl.ErrRange)
+	checkActCode(t, "a full air", full, injectAct(1, 1, long), impl.ErrRange)
 	checkActCode(t, "a full air", full, injectAct(0, 9, far), impl.ErrRange)
 	checkActCode(t, "a full air", full, injectAct(1, 2, far), impl.ErrRange)
 	checkActCode(t, "a full air", full, injectAct(1, 7, ""), impl.ErrRange)
@@ -169,21 +169,40 @@ func TestPromise16SeveralFaultsAtOnce(t *testing.T) {
 	checkActCode(t, "two", netWith(2, 0, 4, 6, 0), restartAct(3, -1), impl.ErrRange)
 }
 
-// A list of signs in an act is bounded by NetTick alone, which is given it: not without a tick, and behind the faults
-// that the act has of its own.
-func TestPromise16SignsThatAreTooLongForATick(t *testing.T) {
+// A list within an act is no argument of its own: no count of its signs is too long, whatever NetTick says of such a list.
+func TestPromise16ManySignsAreDone(t *testing.T) {
 	for _, c := range actNets() {
-		for _, size := range []int{impl.MaxList + 1, 2 * impl.MaxList} {
-			for _, x := range []int{0, 1} {
-				lose := slices.Repeat([]int{x}, size)
-				checkActCode(t, c.name, c.n, lossyAct(0, lose...), impl.OK)
-				for _, count := range []int{1, 2, 200} {
-					checkActCode(t, c.name, c.n, lossyAct(count, lose...), impl.ErrLong)
-					checkActCode(t, c.name+" at its end", atTime(c.n, maxTick), lossyAct(count, lose...), impl.ErrEnd)
+		for _, size := range []int{impl.MaxList, impl.MaxList + 1, 2 * impl.MaxList, impl.MaxText + 1} {
+			for _, lose := range [][]int{make([]int, size), slices.Repeat([]int{1}, size), signsOf(size)} {
+				checkActCode(t, c.name+" near its end", atTime(c.n, maxTick-2), lossyAct(3, lose...), impl.ErrEnd)
+				for _, count := range []int{0, 1, 3} {
+					if got := checkAct(t, c.name, c.n, lossyAct(count, lose...)); got.Time != c.n.Time+count {
+						t.Errorf("%d ticks with %d signs on %s: from %d to %d", count, size, c.name, c.n.Time, got.Time)
+					}
 				}
 				checkActCode(t, c.name, c.n, lossyAct(201, lose...), impl.ErrRange)
-				checkActCode(t, c.name, c.n, lossyAct(1, append(slices.Clone(lose), 2)...), impl.ErrRange)
-				checkRun(t, c.name, c.n, []impl.Act{ticksAct(1), lossyAct(1, lose...), ticksAct(2)}, impl.OK, impl.ErrLong, impl.OK)
+				checkActCode(t, c.name, c.n, lossyAct(-1, lose...), impl.ErrRange)
+				for _, wrong := range []int{2, -1} {
+					checkActCode(t, c.name, c.n, lossyAct(1, append(slices.Clone(lose), wrong)...), impl.ErrRange)
+					checkActCode(t, c.name, c.n, lossyAct(0, append(slices.Clone(lose), wrong)...), impl.ErrRange)
+				}
+				checkRun(t, c.name, c.n, []impl.Act{ticksAct(1), lossyAct(1, lose...), lossyAct(2, lose...)}, impl.OK, impl.OK, impl.OK)
+			}
+		}
+	}
+}
+
+// Bytes within an act are no argument of their own either: they are out of their bounds, however many they are.
+func TestPromise16ManyBytesAreOutOfBounds(t *testing.T) {
+	for _, c := range append(actNets(), namedNet{"a full air", fullPassing(maxAir)}) {
+		if len(c.n.Routers) < 2 {
+			continue
+		}
+		for _, size := range []int{maxFrame + 1, impl.MaxText - 1, impl.MaxText, impl.MaxText + 1, 2 * impl.MaxText, 1 << 20} {
+			for _, a := range []impl.Act{injectAct(1, 2, strings.Repeat("z", size)), injectAct(2, 1, strings.Repeat("\x00", size)), injectAct(1, 1, strings.Repeat("z", size))} {
+				checkActCode(t, c.name, c.n, a, impl.ErrRange)
+				checkActCode(t, c.name+" at its end", atTime(c.n, maxTick), a, impl.ErrRange)
+				checkRun(t, c.name, c.n, []impl.Act{ticksAct(1), a, ticksAct(1)}, impl.OK, impl.ErrRange, impl.OK)
 			}
 		}
 	}
